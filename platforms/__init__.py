@@ -1,0 +1,1 @@
+"""Platforms: on which track each train of a station should stand."""
