@@ -1,7 +1,8 @@
-"""A station's tracks and trains, and the calls that tell of them and try them."""
+"""A station's tracks and trains, and the calls that tell of them and ask about them."""
 
 from platforms.standing import Standing
-from platforms.trains import COMES, Coming, Going, moves_in_order
+from platforms.trains import Coming, Going, moves_in_order
+from platforms.ways import Search
 
 MOST_TRACKS = 4
 MOST_PARTS = 4
@@ -33,6 +34,10 @@ def with_lists(number, rows):
         told.append(len(row))
         told.extend(row)
     return told
+
+
+def is_on_track(ways, train, track):
+    return all([way[train] == track for way in ways])
 
 
 class Plan:
@@ -87,10 +92,42 @@ class Plan:
         if not self.are_tracks_for_all(chosen):
             return [WRONG]
         standing = Standing(self.tracks, self.lengths)
-        obstacle = self.first_obstacle(standing, moves_in_order(self.coming, self.going), chosen)
+        obstacle = standing.first_obstacle(moves_in_order(self.coming, self.going), chosen)
         if len(obstacle) > 0:
             return with_lists(NO_WAY, obstacle)
         return [self.cost_of(chosen)]
+
+    def stands(self, minute, chosen):
+        if minute > LATEST or not self.are_tracks_for_all(chosen):
+            return [WRONG]
+        moves = [move for move in moves_in_order(self.coming, self.going) if move.train.minute <= minute]
+        standing = Standing(self.tracks, self.lengths)
+        obstacle = standing.first_obstacle(moves, chosen)
+        if len(obstacle) > 0:
+            return with_lists(NO_WAY, obstacle)
+        return with_lists(sum([len(row) for row in standing.rows]), standing.rows)
+
+    def best(self):
+        ways = self.all_ways()
+        if len(ways) == 0:
+            return [NO_WAY]
+        cheapest = self.cheapest_of(ways)
+        return with_lists(self.cost_of(cheapest[0]), [[len(ways), len(cheapest)], cheapest[0]])
+
+    def fewest(self):
+        ways = self.all_ways()
+        if len(ways) == 0:
+            return [NO_WAY]
+        least = min([len(set(way)) for way in ways])
+        chosen = self.cheapest_of([way for way in ways if len(set(way)) == least])[0]
+        return with_lists(least, [[self.cost_of(chosen)], chosen])
+
+    def forced(self):
+        ways = self.all_ways()
+        if len(ways) == 0:
+            return [NO_WAY]
+        rows = [[train, track] for train, track in enumerate(ways[0]) if is_on_track(ways, train, track)]
+        return with_lists(len(rows), rows)
 
     def goes_already(self, part):
         return any([part in train.parts for train in self.going])
@@ -98,17 +135,13 @@ class Plan:
     def are_tracks_for_all(self, chosen):
         return len(chosen) == len(self.coming) and all([track < len(self.tracks) for track in chosen])
 
-    def first_obstacle(self, standing, moves, chosen):
-        for move in moves:
-            hindered = self.do_move(standing, move, chosen)
-            if len(hindered) > 0:
-                return [[move.kind, move.number], hindered]
-        return []
-
-    def do_move(self, standing, move, chosen):
-        if move.kind == COMES:
-            return standing.bring(self.coming[move.number], chosen[move.number])
-        return standing.take(self.going[move.number])
-
     def cost_of(self, chosen):
         return sum([train.cost_on(track) for train, track in zip(self.coming, chosen)])
+
+    def all_ways(self):
+        return Search(self.tracks, self.lengths, self.coming, self.going).ways()
+
+    def cheapest_of(self, ways):
+        costs = [self.cost_of(way) for way in ways]
+        least = min(costs)
+        return [way for way, cost in zip(ways, costs) if cost == least]

@@ -1,7 +1,6 @@
 """Parts one list of numbers into the calls that stand in it, one behind another."""
 
 # Of each call, by its number: how many whole numbers it has, then how many rows.
-# Calls that are not answered yet have their place too, so that one is added by its answer alone.
 SHAPES = ((0, 1), (2, 2), (2, 1), (0, 0), (0, 1), (1, 1), (0, 0), (0, 0), (0, 0))
 
 

@@ -1,5 +1,7 @@
 """The parts that stand on the tracks while moves are done."""
 
+from platforms.trains import COMES
+
 LEFT = 0
 
 STANDS_NOWHERE = 1
@@ -16,7 +18,20 @@ class Standing:
         self.lengths = lengths
         self.rows = [[] for track in tracks]
 
-    # bring and take answer nothing in a list when the move is done, else the reason and what's told of it.
+    # An empty list is answered below when what's asked for is done, else the reason and what's told of it;
+    # first_obstacle tells the move ahead of these.
+
+    def first_obstacle(self, moves, chosen):
+        for move in moves:
+            hindered = self.do_move(move, chosen)
+            if len(hindered) > 0:
+                return [[move.kind, move.number], hindered]
+        return []
+
+    def do_move(self, move, chosen):
+        if move.kind == COMES:
+            return self.bring(move.train, chosen[move.number])
+        return self.take(move.train)
 
     def bring(self, train, track):
         if not train.can_stand_on(track):

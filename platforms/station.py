@@ -8,6 +8,9 @@ COME = 1
 GO = 2
 UNDO = 3
 TRY_TRACKS = 4
+STANDS = 5
+BEST = 6
+FEWEST = 7
 
 
 def answer_to(plan, call):
@@ -23,7 +26,14 @@ def answer_to(plan, call):
         return plan.undo()
     if call.number == TRY_TRACKS:
         return plan.try_tracks(rows[0])
-    raise NotImplementedError("this call is not answered yet")
+    if call.number == STANDS:
+        return plan.stands(numbers[0], rows[0])
+    if call.number == BEST:
+        return plan.best()
+    if call.number == FEWEST:
+        return plan.fewest()
+    # No call has a higher number than this one, forced.
+    return plan.forced()
 
 
 def answers(calls):

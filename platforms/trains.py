@@ -27,14 +27,14 @@ class Going:
 
 
 class Move:
-    def __init__(self, minute, kind, number):
-        self.minute = minute
+    def __init__(self, kind, number, train):
         self.kind = kind
         self.number = number
+        self.train = train
 
 
 def moves_in_order(coming, going):
-    leaving = [Move(train.minute, GOES, number) for number, train in enumerate(going)]
-    arriving = [Move(train.minute, COMES, number) for number, train in enumerate(coming)]
+    leaving = [Move(GOES, number, train) for number, train in enumerate(going)]
+    arriving = [Move(COMES, number, train) for number, train in enumerate(coming)]
     # sorted leaves moves of one minute as they are here: those that go first, each by their numbers.
-    return sorted(leaving + arriving, key=lambda move: move.minute)
+    return sorted(leaving + arriving, key=lambda move: move.train.minute)

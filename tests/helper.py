@@ -33,6 +33,22 @@ def try_tracks(*tracks):
     return [4, len(tracks)] + list(tracks)
 
 
+def stands(minute, *tracks):
+    return [5, minute, len(tracks)] + list(tracks)
+
+
+def best():
+    return [6]
+
+
+def fewest():
+    return [7]
+
+
+def forced():
+    return [8]
+
+
 def joined(calls):
     return [number for call in calls for number in call]
 
@@ -54,6 +70,10 @@ def ask(*calls):
 
 def last(*calls):
     return ask(*calls)[-1]
+
+
+def with_rows(number, *rows):
+    return [number] + joined([[len(row)] + row for row in rows])
 
 
 def comes_first(train, reason, told):
